@@ -1,0 +1,1 @@
+"""Which sorts of watchers can ever tell two machines apart."""

@@ -1,0 +1,44 @@
+"""Tests of plain values: numbers, tuples of numbers, tables."""
+
+from watchkinds.errors import InvalidNumber
+
+
+def is_number(value, least, most):
+    """Whether the value is an integer from `least` to `most`; True and False are not integers."""
+    return isinstance(value, int) and not isinstance(value, bool) and least <= value <= most
+
+
+def need_number(value, least, most):
+    """Raise the error of a number that is no integer within its bounds."""
+    if not is_number(value, least, most):
+        raise InvalidNumber(value)
+
+
+def is_pair(value):
+    """Whether the value is a tuple with two members."""
+    return isinstance(value, tuple) and len(value) == 2
+
+
+def ascends(values):
+    """Whether each member is less than the next one; the members can be compared."""
+    return all([values[at] < values[at + 1] for at in range(len(values) - 1)])
+
+
+def is_ascending(value, many):
+    """Whether the value is an ascending tuple of some of the integers from 0 to `many`, exclusive."""
+    if not isinstance(value, tuple):
+        return False
+    return all([is_number(part, 0, many - 1) for part in value]) and ascends(value)
+
+
+def is_table(value, width, most):
+    """Whether the value is a tuple of one to `most` rows, each a tuple of `width` indices of rows."""
+    if not isinstance(value, tuple) or not 1 <= len(value) <= most:
+        return False
+    return all([_is_row(row, width, len(value)) for row in value])
+
+
+def _is_row(value, width, many):
+    if not isinstance(value, tuple) or len(value) != width:
+        return False
+    return all([is_number(after, 0, many - 1) for after in value])
