@@ -5,6 +5,7 @@ import random
 import re
 
 from watchkinds.base.machines import Machine
+from watchkinds.boxes.boxes import Box
 
 EVEN = Machine("ab", ((1, 0), (0, 1)), (0,))
 ODD = Machine("ab", ((1, 0), (0, 1)), (1,))
@@ -12,6 +13,8 @@ CLOSES = Machine("ab", ((1, 0), (1, 0)), (1,))
 OPENS = Machine("ab", ((1, 2), (1, 1), (2, 2)), (1,))
 SOME = Machine("ab", ((1, 0), (1, 1)), (1,))
 NONE = Machine("ab", ((1, 0), (1, 1)), (0,))
+LATCH = Box("ab", ((1, 0), (1, 1)))
+SWITCH = Box("ab", ((1, 0), (0, 1)))
 
 TWELVE = 10 ** 12 - 1
 
@@ -32,6 +35,10 @@ VALUES = [
     ((True, False), (False, True)), [], [0], ["a"], [[0, 0]], [(0, 0)], ([0, 0],), {}, {"a": "b"}, {0: 1}, {"a": 0},
     {None: None}, {(0,): 0}, (EVEN,), [EVEN], {"a": EVEN}, EVEN, ODD, Machine("a", ((0,),)), (EVEN, "a"),
     (("",), ("a",)), ("a", 0), deep(None, 10), deep(EVEN, 10), deep(True, 9), deep("a", 10),
+    LATCH, SWITCH, Box("a", ((0,),)), (LATCH,), [LATCH], {"a": LATCH}, (EVEN, LATCH), deep(LATCH, 10), ("last", "any"),
+    ["last", "any"], ("any", "last"), ("any", "any"), ("turn", 0, "a"), ("swap", 0, "a", "b"), ("merge", 0, 1, "a"),
+    ("rings", 0, "", "a", "b"), ("left", 0, "b", "a"), ("ring", 0, "a", "a"), ("apart", 0, "a", "b"),
+    (((0, 0),), ((0, 0),)), (((0, 0), (1, 1)), ((0, 0), (1, 1))),
 ]
 
 
@@ -49,6 +56,10 @@ def is_plain_number(value, least, most):
 
 def is_machine(value):
     return isinstance(value, Machine)
+
+
+def is_box(value):
+    return isinstance(value, Box)
 
 
 def number_from(least, most):
@@ -75,7 +86,7 @@ def check_error(test, call, values, error, keeps=None, kept=None):
     except Exception as found:
         test.assertIs(type(found), error, f"{values!r} raised {found!r}")
         if keeps is not None:
-            test.assertIs(getattr(found, keeps), kept)
+            test.assertEqual((type(getattr(found, keeps)), getattr(found, keeps)), (type(kept), kept))
         return
     test.fail(f"{values!r} gave {result!r} instead of {error}")
 
@@ -143,6 +154,22 @@ def some_machines(letters, many, seed, states=(1, 2, 3, 4)):
     """So many machines, the same ones each time."""
     some = random.Random(seed)
     return [random_machine(some, letters, states[at % len(states)]) for at in range(many)]
+
+
+def random_box(some, letters, places):
+    return Box(letters, random_table(some, len(letters), places))
+
+
+def some_boxes(letters, many, seed, places=(1, 2, 3, 4, 5, 6)):
+    """So many boxes, the same ones each time."""
+    some = random.Random(seed)
+    return [random_box(some, letters, places[at % len(places)]) for at in range(many)]
+
+
+def all_boxes(letters, places):
+    """All boxes with so many places."""
+    rows = list(itertools.product(range(places), repeat=len(letters)))
+    return [Box(letters, table) for table in itertools.product(rows, repeat=places)]
 
 
 def check_least(test, machine):
