@@ -74,6 +74,48 @@ def way_between(letters, table, start, goal):
     return word_along(letters, found, goal)
 
 
+def way_to_any(letters, table, start, goals):
+    """The first word that leads from a row to one of the goals, or None."""
+    wanted = {goal: True for goal in goals}
+    found = ways(table, start)
+    for row in found:
+        if row in wanted:
+            return word_along(letters, found, row)
+    return None
+
+
+def ring_at(letters, table, row):
+    """The first word that is not empty and leads a row to itself, or None."""
+    rings = []
+    for letter, after in zip(letters, table[row]):
+        rest = way_between(letters, table, after, row)
+        if rest is not None:
+            rings.append(letter + rest)
+    return min(rings, key=len, default=None)
+
+
+def on_rings(table):
+    """Whether some word that is not empty leads a row to itself, for each row."""
+    found = [row in afters for row, afters in enumerate(table)]
+    for knot in knots_of(table):
+        for row in knot:
+            found[row] = found[row] or len(knot) > 1
+    return found
+
+
+def leading(table, goals):
+    """Whether some word, perhaps empty, leads a row to one of the goals, for each row."""
+    back = _turned_round(table)
+    found = [False for _ in table]
+    queue = list(goals)
+    while queue:
+        row = queue.pop()
+        if not found[row]:
+            found[row] = True
+            queue.extend(back[row])
+    return found
+
+
 def trimmed(table, start):
     """The rows that words reach from a row, in the order of the first such words, and their table."""
     order = list(ways(table, start))

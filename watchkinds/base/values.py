@@ -31,11 +31,22 @@ def is_ascending(value, many):
     return all([is_number(part, 0, many - 1) for part in value]) and ascends(value)
 
 
+def are_pairs(value, many, others):
+    """Whether the value is an ascending tuple of pairs of an integer below `many` and one below `others`."""
+    if not isinstance(value, tuple):
+        return False
+    return all([_is_pair_of(part, many, others) for part in value]) and ascends(value)
+
+
 def is_table(value, width, most):
     """Whether the value is a tuple of one to `most` rows, each a tuple of `width` indices of rows."""
     if not isinstance(value, tuple) or not 1 <= len(value) <= most:
         return False
     return all([_is_row(row, width, len(value)) for row in value])
+
+
+def _is_pair_of(value, many, others):
+    return is_pair(value) and is_number(value[0], 0, many - 1) and is_number(value[1], 0, others - 1)
 
 
 def _is_row(value, width, many):

@@ -2,7 +2,7 @@
 
 from watchkinds.base.machines import need_machines, need_same_letters
 from watchkinds.base.tables import paired, ways, word_along
-from watchkinds.base.values import ascends, is_number, is_pair, need_number
+from watchkinds.base.values import are_pairs, is_pair, need_number
 from watchkinds.base.words import need_over, need_word
 from watchkinds.boxes.boxes import need_box
 from watchkinds.errors import InvalidMachine
@@ -136,13 +136,8 @@ def _reached(machine, box):
 
 def _is_closed(machine, box, value):
     """Whether the value is one of both tuples of a paper, as far as it concerns one machine alone."""
-    if not isinstance(value, tuple) or not all([_is_sight(machine, box, pair) for pair in value]):
+    if not are_pairs(value, len(machine), len(box)):
         return False
     held = {pair: True for pair in value}
-    if not ascends(value) or (0, 0) not in held:
-        return False
-    return all([after in held for state, place in value for after in zip(machine.table[state], box.table[place])])
-
-
-def _is_sight(machine, box, value):
-    return is_pair(value) and is_number(value[0], 0, len(machine) - 1) and is_number(value[1], 0, len(box) - 1)
+    return (0, 0) in held and all([after in held for state, place in value
+                                   for after in zip(machine.table[state], box.table[place])])

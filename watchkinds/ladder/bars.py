@@ -1,6 +1,6 @@
 """The bars of boxes: the first one that is there, for each sort, and the tests of what should be one."""
 
-from watchkinds.base.tables import knots_of, led, numbered, paired, way_between, ways, word_along
+from watchkinds.base.tables import knots_of, led, numbered, paired, ring_at, way_between, ways, word_along
 from watchkinds.base.values import is_number
 from watchkinds.base.words import is_over, is_word
 from watchkinds.ladder.actions import columns_of, turned_place
@@ -36,18 +36,8 @@ def _rings_from(letters, table, groups, place, after):
     while (one, other) not in met:
         met[(one, other)] = True
         one, other = [pair for pair in zip(table[one], table[other]) if groups[pair[0]] != groups[pair[1]]][0]
-    ring = _ring_at(letters, paired(table, table, (one, other))[1], 0)
+    ring = ring_at(letters, paired(table, table, (one, other))[1], 0)
     return ("rings", place, way_between(letters, table, place, one), way_between(letters, table, place, other), ring)
-
-
-def _ring_at(letters, table, place):
-    """The first word that is not empty and leads a row to itself, or None."""
-    rings = []
-    for letter, after in zip(letters, table[place]):
-        rest = way_between(letters, table, after, place)
-        if rest is not None:
-            rings.append(letter + rest)
-    return min(rings, key=len, default=None)
 
 
 def _left_bar(letters, table):
@@ -55,7 +45,7 @@ def _left_bar(letters, table):
     for place, row in enumerate(table):
         leaving = [letter for letter, after in zip(letters, row) if after != place]
         if leaving and (place in shared or place in row):
-            return ("left", place, _ring_at(letters, table, place), leaving[0])
+            return ("left", place, ring_at(letters, table, place), leaving[0])
     return None
 
 

@@ -1,0 +1,1 @@
+"""What the last and the first letters of words tell."""

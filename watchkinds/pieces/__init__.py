@@ -1,0 +1,1 @@
+"""What the scattered pieces of words tell."""

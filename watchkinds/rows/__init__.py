@@ -1,0 +1,1 @@
+"""Rows of levels, and how they are made from boxes."""
