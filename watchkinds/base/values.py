@@ -3,9 +3,14 @@
 from watchkinds.errors import InvalidNumber
 
 
+def is_integer(value):
+    """Whether the value is an integer; True and False are not integers."""
+    return isinstance(value, int) and not isinstance(value, bool)
+
+
 def is_number(value, least, most):
-    """Whether the value is an integer from `least` to `most`; True and False are not integers."""
-    return isinstance(value, int) and not isinstance(value, bool) and least <= value <= most
+    """Whether the value is an integer from `least` to `most`."""
+    return is_integer(value) and least <= value <= most
 
 
 def need_number(value, least, most):

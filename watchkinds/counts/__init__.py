@@ -1,0 +1,1 @@
+"""What counts of letters tell, by caps and by rests."""

@@ -1,0 +1,1 @@
+"""Walks there and back, which boxes without loss follow both ways."""
