@@ -28,7 +28,7 @@ def deep(value, depth):
 
 # One value of each kind that [0.4] tells, many of them just beside a right one.
 VALUES = [
-    True, False, None, 0, 1, 2, 3, 4, 5, 7, 8, 60, 61, 400, 401, -1, -2, 10 ** 11, 10 ** 11 + 1, TWELVE,
+    True, False, None, 0, 1, 2, 3, 4, 5, 6, 7, 8, 12, 13, 20, 21, 40, 41, 60, 61, 400, 401, -1, -2, 10 ** 11, 10 ** 11 + 1, TWELVE,
     10 ** 40 - 1, 1 - 10 ** 40, "", "a", "b", "ab", "ba", "aa", "abc", "abcd", "z", "A", "aB", "a\n", "\n", " ",
     "a b", "a1", "1", "-", "any", "last", "clerks", "Any", "x" * 400, "{}", (), (0,), (1,), (0, 1), (1, 0), (0, 0),
     (True,), (False, True), ("a",), ("ab", "a"), ("A",), (None,), ((),), ((0,),), ((0, 0),), ((0, 1), (1, 0)),

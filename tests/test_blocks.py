@@ -228,6 +228,8 @@ class Blurs(unittest.TestCase):
                         expected = is_plain_blur(left, last, value)
                         self.assertIs(is_pieces_blur(left, last, value), expected)
                         right += expected
+                    for form in ("block", "word", "blocks ", "path", "", None, "counts", "walks"):
+                        self.assertIs(is_pieces_blur(left, last, (form, path)), False)
                 for word in words_up_to(letters, 3):
                     self.assertIs(is_pieces_blur(one, other, ("word", word)), word in one and word in other)
         self.assertGreater(right, 100)

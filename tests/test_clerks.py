@@ -9,7 +9,7 @@ import unittest
 from plain import (CLOSES, EVEN, NONE, ODD, OPENS, SOME, VALUES, Argument, all_machines, check_arguments, check_error,
                    is_machine, is_plain_letters, is_plain_number, is_plain_word, led_to, number_from, some_machines,
                    words_up_to)
-from test_rings import is_plain_blur, some_pairs
+from test_rings import is_plain_blur, joined_pairs, looped_pairs, some_pairs
 from watchkinds.base.joined import chained, of_words
 from watchkinds.base.machines import Machine
 from watchkinds.counts import finding
@@ -168,6 +168,21 @@ class Blurs(unittest.TestCase):
                 key = sort, blur if blur is None else blur[0]
                 seen[key] = seen.get(key, 0) + 1
         self.assertGreater(min(seen[sort, form] for sort in COUNT_SORTS for form in (None, "word", "counts")), 20, seen)
+
+    def test_rings_that_are_gone_round_just_so_often(self):
+        ways = {}
+        pairs = joined_pairs(150, 134) + looped_pairs(350, 135)
+        # Words a*b and ba: their counts are equal if the ring a is gone round once.
+        pairs += [(Machine("ab", ((0, 1), (2, 2), (2, 2)), (1,)), of_words("ab", ("ba",)))]
+        for one, other in pairs:
+            for sort in COUNT_SORTS:
+                blur = self.check_both(one, other, sort)
+                if blur is not None and blur[0] == "counts":
+                    bound = [turn for side in blur[2:] for turn in side[1] if not set(turn[1]) <= set(blur[1])]
+                    ways[sort, len(blur[1]), bool(bound)] = (one, other, blur)
+        for sort in ("caps", "clerks"):
+            for large in (0, 1, 2):
+                self.assertIn((sort, large, True), ways)
 
     def test_all_pairs_of_two_states(self):
         some = random.Random(27)

@@ -142,6 +142,9 @@ class Blurs(unittest.TestCase):
                     for made in (("word", value), (value, ""), ("blur", value)):
                         self.assertIs(is_blur(one, other, made), is_plain_blur(one, other, made, sort), repr(made))
                     self.assertIs(is_paper(one, other, ("blur", value)), is_plain_blur(one, other, value, sort))
+                    good = {"last": last_blur, "first": first_blur}[sort](one, other)
+                    self.assertIs(is_paper(one, other, (value, good)), False)
+                    self.assertIs(is_paper(one, other, ("blur", good, value)), False)
 
     def test_sides(self):
         blur = ("end", "", "a", "b", "")
@@ -236,6 +239,9 @@ class Papers(unittest.TestCase):
                     for made in (["number", number, pairs], ("number", number), ("number", number, pairs, 0),
                                  ("numbers", number, pairs), ("blur", number, pairs), (number, pairs)):
                         self.assertIs(is_paper(one, other, made), False)
+                blur = {"last": last_blur, "first": first_blur}[sort](one, other)
+                for form in ("blurs", "number", "word", "", None):
+                    self.assertIs(is_paper(one, other, (form, blur)), False)
 
     def test_each_number_from_the_least_one_on(self):
         self.assertEqual(MAX_NUMBER, 400)

@@ -7,7 +7,7 @@ import unittest
 
 from plain import (EVEN, NONE, ODD, OPENS, SOME, TWELVE, VALUES, Argument, check_arguments, check_error, is_machine,
                    is_plain_letters, is_plain_number, is_plain_word, led_to, number_from, some_machines, words_up_to)
-from watchkinds.base.joined import of_words, repeated
+from watchkinds.base.joined import chained, common_word, of_words, repeated
 from watchkinds.base.machines import Machine
 from watchkinds.boxes.boxes import Box
 from watchkinds.counts import rings
@@ -90,10 +90,49 @@ def some_pairs(many=60):
     return found
 
 
+def joined_machine(some, letters, depth):
+    """A machine of words, of words repeated, and of such one behind another or beside one another."""
+    kind = some.choice(("words", "repeated", "chained", "either")) if depth else "words"
+    if kind == "words":
+        return of_words(letters, tuple("".join(some.choices(letters, k=some.randint(0, 3)))
+                                       for _ in range(some.randint(1, 2))))
+    if kind == "repeated":
+        return repeated(joined_machine(some, letters, depth - 1))
+    one, other = joined_machine(some, letters, depth - 1), joined_machine(some, letters, depth - 1)
+    return chained(one, other) if kind == "chained" else one | other
+
+
+def joined_pairs(many, seed):
+    """Pairs of such machines of at most four states, without words in common."""
+    some = random.Random(seed)
+    found = []
+    while len(found) < many:
+        letters = some.choice(("a", "ab", "ab", "abc"))
+        one, other = (joined_machine(some, letters, some.randint(1, 4)) for _ in range(2))
+        pair = (one - other, other) if some.random() < 0.5 else (one, other - one)
+        if max(len(machine) for machine in pair) <= 4 and not any(machine.is_empty for machine in pair):
+            found.append(pair)
+    return found
+
+
+def looped_pairs(many, seed):
+    """Pairs of machines of three states and one from which no letter leads back, without words in common."""
+    some = random.Random(seed)
+    found = []
+    while len(found) < many:
+        letters = some.choice(("ab", "abc", "abc"))
+        pair = [Machine(letters, tuple(tuple(some.randrange(3) if some.random() < 0.55 else 3 for _ in letters)
+                                       for _ in range(3)) + ((3,) * len(letters),), (some.randrange(3),))
+                for _ in range(2)]
+        if not any(machine.is_empty for machine in pair) and common_word(*pair) is None:
+            found.append(tuple(pair))
+    return found
+
+
 def some_blurs(many=60):
     """Machines, sorts, and counts blurs of them that have sides."""
     found = []
-    for one, other in some_pairs(many):
+    for one, other in some_pairs(many) + joined_pairs(2 * many, 129) + looped_pairs(many, 130):
         for sort in COUNT_SORTS:
             blur = counts_blur(one, other, sort)
             if blur is not None and blur[0] == "counts":

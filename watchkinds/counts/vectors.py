@@ -40,14 +40,14 @@ def rest_by(pivots, vector):
 
 
 def times_for(pivots, vector, many):
-    """The times with which a vector is made of the vectors, or None."""
+    """The times with which a vector that is made of the vectors is made of them."""
     times = tuple([0 for _ in range(many)])
     for index in range(len(vector)):
         if index in pivots:
             held, held_times = pivots[index]
             whole = vector[index] // held[index]
             vector, times = plus(vector, held, -whole), plus(times, held_times, whole)
-    return times if not any([part != 0 for part in vector]) else None
+    return times
 
 
 def rising(vectors, width):

@@ -128,7 +128,7 @@ def _need_small(box):
 
 def _need_set(box, places):
     _need_small(box)
-    if not isinstance(places, tuple) or not any([_is_same(places, held) for held in _sets_of(box.table)]):
+    if not any([_is_same(places, held) for held in _sets_of(box.table)]):
         raise InvalidOperation("no image set of the box")
 
 
@@ -191,8 +191,6 @@ def _heights(table):
 
 
 def _tiles_of(held, places):
-    if len(places) == 1:
-        return ()
     parts = [part for part in held if len(part) < len(places) and _is_part(part, places)]
     return tuple([part for part in parts if not any([part != other and _is_part(part, other) for other in parts])])
 
