@@ -28,8 +28,8 @@ def deep(value, depth):
 
 # One value of each kind that [0.4] tells, many of them just beside a right one.
 VALUES = [
-    True, False, None, 0, 1, 2, 3, 4, 5, 6, 7, 8, 12, 13, 20, 21, 40, 41, 60, 61, 400, 401, -1, -2, 10 ** 11, 10 ** 11 + 1, TWELVE,
-    10 ** 40 - 1, 1 - 10 ** 40, "", "a", "b", "ab", "ba", "aa", "abc", "abcd", "z", "A", "aB", "a\n", "\n", " ",
+    True, False, None, 0, 1, 2, 3, 4, 5, 6, 7, 8, 12, 13, 20, 21, 40, 41, 60, 61, 400, 401, -1, -2, 10 ** 11,
+    10 ** 11 + 1, TWELVE, 10 ** 40 - 1, 1 - 10 ** 40, "", "a", "b", "ab", "ba", "aa", "abc", "abcd", "z", "A", "aB", "a\n", "\n", " ",
     "a b", "a1", "1", "-", "any", "last", "clerks", "Any", "x" * 400, "{}", (), (0,), (1,), (0, 1), (1, 0), (0, 0),
     (True,), (False, True), ("a",), ("ab", "a"), ("A",), (None,), ((),), ((0,),), ((0, 0),), ((0, 1), (1, 0)),
     ((True, False), (False, True)), [], [0], ["a"], [[0, 0]], [(0, 0)], ([0, 0],), {}, {"a": "b"}, {0: 1}, {"a": 0},
@@ -132,7 +132,13 @@ def led_to(thing, word, start=0):
 
 def language(machine, most):
     """The list of the words of a machine, the first one first."""
-    return [word for word in words_up_to(machine.letters, most) if led_to(machine, word) in machine.ends]
+    layer = [("", 0)]
+    found = []
+    for _ in range(most + 1):
+        found.extend(word for word, state in layer if state in machine.ends)
+        layer = [(word + letter, after) for word, state in layer
+                 for letter, after in zip(machine.letters, machine.table[state])]
+    return found
 
 
 def plain_pieces(word, most):

@@ -144,13 +144,16 @@ class Clerks(unittest.TestCase):
 
 
 class Blurs(unittest.TestCase):
-    def check_both(self, one, other, sort, most=5):
+    def check_both(self, one, other, sort, finest=False):
         blur = counts_blur(one, other, sort)
-        clerk = first_clerk(one, other, sort, 12 if blur is None else most)
+        clerk = first_clerk(one, other, sort, 12)
         self.assertNotEqual(blur is None, clerk is None, (sort, one.table, one.ends, other.table, other.ends))
         if blur is None:
             self.assertIs(is_clerk_for(one, other, sort, clerk), True)
             return None
+        great = {"caps": [(7, 1)], "sums": [(0, 6), (0, 7)], "clerks": [(3, 3), (2, 4)]}[sort]
+        for told in great + ([(0 if sort == "sums" else 12, 1 if sort == "caps" else 12)] if finest else []):
+            self.assertIs(is_clerk_for(one, other, sort, told), False)
         self.assertIs(is_counts_blur(one, other, sort, blur), True)
         self.assertIs(is_plain_blur(one, other, sort, blur), True, blur)
         if blur[0] == "counts":
@@ -173,7 +176,11 @@ class Blurs(unittest.TestCase):
         ways = {}
         pairs = joined_pairs(150, 134) + looped_pairs(350, 135)
         # Words a*b and ba: their counts are equal if the ring a is gone round once.
-        pairs += [(Machine("ab", ((0, 1), (2, 2), (2, 2)), (1,)), of_words("ab", ("ba",)))]
+        only = Machine("ab", ((0, 1), (2, 2), (2, 2)), (1,))
+        pairs += [(only, of_words("ab", ("ba",)))]
+        # Words a*b and b*aa: the ring a is gone round twice, and the ring b once; then so in other machines.
+        more = Machine("ab", ((1, 0), (2, 3), (3, 3), (3, 3)), (2,))
+        pairs += [(only, more), (more, only), (Machine("ab", ((2, 1), (2, 2), (0, 3), (3, 3)), (1,)), more)]
         for one, other in pairs:
             for sort in COUNT_SORTS:
                 blur = self.check_both(one, other, sort)
@@ -240,7 +247,7 @@ class Blurs(unittest.TestCase):
             for left, right in ((one, other), (one, ~one)):
                 for sort in COUNT_SORTS:
                     start = time.monotonic()
-                    self.check_both(left, right, sort, 12)
+                    self.check_both(left, right, sort, True)
                     slowest = max(slowest, time.monotonic() - start)
         self.assertLess(slowest, 20)
 

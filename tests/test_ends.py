@@ -5,7 +5,8 @@ import random
 import unittest
 
 from plain import (CLOSES, EVEN, NONE, ODD, OPENS, SOME, VALUES, Argument, all_machines, check_arguments, check_error,
-                   is_machine, is_plain_number, is_plain_word, led_to, number_from, some_machines, words_up_to)
+                   is_machine, is_plain_number, is_plain_word, language, led_to, number_from, some_machines,
+                   words_up_to)
 from watchkinds.base.joined import chained, of_words
 from watchkinds.base.machines import Machine
 from watchkinds.ends import ends
@@ -41,7 +42,7 @@ def is_plain_blur(one, other, value, sort):
 
 def plain_number(one, other, sort, letters):
     """The least number that suffices, by all words of at most so many letters, or None."""
-    held = [[word for word in words_up_to(one.letters, letters) if has(machine, word)] for machine in (one, other)]
+    held = [language(machine, letters) for machine in (one, other)]
     if set(held[0]) & set(held[1]):
         return None
     # Whatever leads to a state, or from it to an end, need not have more letters than this.

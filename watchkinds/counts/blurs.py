@@ -20,36 +20,42 @@ def _blur_of_spans(one, other, sort, left, right):
     """Any counts blur with a word and rings of each of both spans, or None."""
     letters = one.letters
     large = letters if sort == "sums" else _large_letters(letters, left[1], right[1])
-    # Free rings may be gone round any whole number of times, so what is large in them matters to the clerks alone.
-    free = [[ring for ring in span[1] if _is_within(letters, large, ring)] for span in (left, right)]
-    moves = [(0, ring) for ring in left[1] if ring not in free[0]]
-    moves += [(1, _opposite(ring)) for ring in right[1] if ring not in free[1]]
-    gens = free[0] + [_opposite(ring) for ring in free[1]]
-    if sort == "caps":
-        gens = [_unit(letters, letter) for letter in large]
-    pivots = reached_by(gens)
-    way = _way_to_equal(letters, large, pivots, left[0], right[0], moves)
+    turns = [(0, ring) for ring in left[1]] + [(1, ring) for ring in right[1]]
+    free = [turn for turn in turns if _is_within(letters, large, turn[1])]
+    # Caps do not see how often large letters come, so that for them each of these is made up alone.
+    made = [_unit(letters, letter) for letter in large] if sort == "caps" else [_change(turn) for turn in free]
+    pivots = reached_by(made)
+    bound = [turn for turn in turns if turn not in free]
+    way = _way_to_equal(letters, large, pivots, left[0], right[0], bound)
     if way is None:
         return None
     bases, taken = way
+    times = _times_round(bases, taken, [] if sort == "caps" else free, pivots)
+    sides = [_side(machine, large, span, base, held)
+             for machine, span, base, held in zip((one, other), (left, right), bases, times)]
+    return ("counts", large, sides[0], sides[1])
+
+
+def _times_round(bases, taken, free, pivots):
+    """For each side a dict from the counts of rings to how often they are gone round, so that both sums are equal."""
     times = [{}, {}]
     rest = plus(bases[0], bases[1], -1)
-    for side, move in taken:
-        ring = move if side == 0 else _opposite(move)
+    for side, ring in taken:
         times[side][ring] = times[side].get(ring, 0) + 1
-        rest = plus(rest, move)
-    if sort != "caps":
-        for at, many in enumerate(times_for(pivots, _opposite(rest), len(gens))):
-            side = 0 if at < len(free[0]) else 1
-            times[side][gens[at] if side == 0 else _opposite(gens[at])] = many
-    spans = left, right
-    sides = [_side(machine, large, span, base, held)
-             for machine, span, base, held in zip((one, other), spans, bases, times)]
-    return ("counts", large, sides[0], sides[1])
+        rest = plus(rest, _change((side, ring)))
+    for (side, ring), many in zip(free, times_for(pivots, _opposite(rest), len(free))):
+        times[side][ring] = many
+    return times
 
 
 def _opposite(vector):
     return tuple([-part for part in vector])
+
+
+def _change(turn):
+    """How a ring of a side changes the difference of both sums."""
+    side, ring = turn
+    return ring if side == 0 else _opposite(ring)
 
 
 def _unit(letters, letter):
@@ -74,37 +80,29 @@ def _large_letters(letters, left, right):
     return large
 
 
-def _way_to_equal(letters, large, pivots, lefts, rights, moves):
-    """A pair of bases, and moves that make their difference equal to what the free rings make; or None.
-
-    By each move the rings of one side that are not free change the difference.
-    """
-    # As no more letters can be large, some product rises with each move: so there are few of them.
-    seen = [tuple([0 if letter in large else part for letter, part in zip(letters, move)]) for _, move in moves]
+def _way_to_equal(letters, large, pivots, lefts, rights, bound):
+    """A pair of bases, and rings that are not free and make their difference what the free rings make up; or None."""
+    # As no more letters can be large, some product rises with each of these rings: so there are few of them.
+    seen = [tuple([0 if letter in large else part for letter, part in zip(letters, _change(turn))]) for turn in bound]
     height = rising(seen, len(letters))
     goal = tuple([0 for _ in letters])
     found = {}
-    queue = []
     for one in lefts:
         for other in rights:
             key = rest_by(pivots, plus(one, other, -1))
-            if key not in found and _height(height, letters, large, key) <= 0:
+            if product_of(height, key) <= 0:
                 found[key] = (None, (one, other))
-                queue.append(key)
+    queue = list(found)
     done = 0
     while done < len(queue) and goal not in found:
         key = queue[done]
         done += 1
-        for move in moves:
-            after = rest_by(pivots, plus(key, move[1]))
-            if after not in found and _height(height, letters, large, after) <= 0:
-                found[after] = (key, move)
+        for turn in bound:
+            after = rest_by(pivots, plus(key, _change(turn)))
+            if after not in found and product_of(height, after) <= 0:
+                found[after] = (key, turn)
                 queue.append(after)
     return _way_back(found, goal) if goal in found else None
-
-
-def _height(height, letters, large, vector):
-    return product_of(height, [0 if letter in large else part for letter, part in zip(letters, vector)])
 
 
 def _way_back(found, key):

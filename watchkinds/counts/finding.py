@@ -68,6 +68,9 @@ def first_clerk(one, other, sort, most):
     _need(one, other, sort)
     need_number(most, 1, MAX_CLERK)
     need_same_letters(one.letters, other.letters)
+    # A blur is soon found, where there is one; to try all clerks would take long.
+    if _is_blurred(one, other, sort):
+        return None
     greatest = 0 if sort == "sums" else most
     moduli = list(range(1, 2 if sort == "caps" else most + 1))
     clerks = [(cap + modulus, cap, modulus) for cap in range(greatest + 1) for modulus in moduli]
@@ -84,6 +87,13 @@ def first_clerk(one, other, sort, most):
 def _need(one, other, sort):
     need_machines((one, other))
     need_count_sort(sort)
+
+
+def _is_blurred(one, other, sort):
+    """Whether a counts blur is found, for machines of few states; for others, whether they have a word in common."""
+    if max(len(one), len(other)) > MAX_SEARCHED:
+        return common_word(one, other) is not None
+    return counts_blur(one, other, sort) is not None
 
 
 def _able_moduli(one, other, cap, moduli):
