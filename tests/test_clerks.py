@@ -221,7 +221,8 @@ class Blurs(unittest.TestCase):
     def test_more_states_than_may_be(self):
         five = of_words("ab", ("aaa",))
         self.assertEqual(len(five), 5)
-        for one, other in ((five, EVEN), (EVEN, five), (five, five), (~five, EVEN), (EVEN | five, EVEN)):
+        for one, other in ((five, EVEN), (EVEN, five), (five, five), (~five, EVEN), (EVEN | five, EVEN),
+                           (chained(five, OPENS), EVEN), (OPENS, chained(EVEN, five))):
             for sort in COUNT_SORTS:
                 check_error(self, counts_blur, (one, other, sort), TooMany, "limit", 4)
                 found = first_clerk(one, other, sort, 4)

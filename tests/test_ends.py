@@ -55,8 +55,8 @@ def plain_number(one, other, sort, letters):
     return None
 
 
-def plain_pairs(one, other, sort, number):
-    """The pairs of states to which one word of so many letters leads both machines, from where the sort begins."""
+def plain_layers(one, other, sort):
+    """For each number the pairs of states to which one word of so many letters leads, from where the sort begins."""
     reached = [set() for _ in range(2)]
     for machine, states in zip((one, other), reached):
         queue = [0]
@@ -65,9 +65,13 @@ def plain_pairs(one, other, sort, number):
                 states.add(state)
                 queue.extend(machine.table[state])
     pairs = set(itertools.product(*reached)) if sort == "last" else {(0, 0)}
-    for _ in range(number):
+    while True:
+        yield tuple(sorted(pairs))
         pairs = {after for left, right in pairs for after in zip(one.table[left], other.table[right])}
-    return tuple(sorted(pairs))
+
+
+def plain_pairs(one, other, sort, number):
+    return next(itertools.islice(plain_layers(one, other, sort), number, None))
 
 
 def small_pairs():
@@ -250,8 +254,8 @@ class Papers(unittest.TestCase):
         for one, other in ((CLOSES, ~CLOSES), (OPENS, ~OPENS), chain, (NONE - NONE, EVEN)):
             for sort, (_, _, least, _, _, is_paper) in SORTS.items():
                 told = least(one, other)
-                for number in list(range(12)) + [50, 399, 400]:
-                    made = ("number", number, plain_pairs(one, other, sort, number))
+                for number, pairs in zip(range(401), plain_layers(one, other, sort)):
+                    made = ("number", number, pairs)
                     self.assertIs(is_paper(one, other, made), told is not None and number >= told, (sort, number))
                 made = ("number", 401, plain_pairs(one, other, sort, 401))
                 self.assertIs(is_paper(one, other, made), False)
