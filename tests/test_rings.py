@@ -283,6 +283,12 @@ class Blurs(unittest.TestCase):
             right += self.check(one, other, ("counts", large) + tuple(sides))
         self.assertGreater(right, 100)
 
+    def test_names_of_blurs(self):
+        for name in ("word", "words", "counts", "blocks", "", None):
+            self.check(ALL, ALL, (name, "ab"))
+            self.check(ALL, ALL, (name, "", ("", ()), ("", ())))
+            self.check(ALL, ALL, (name, "ab", ("", ()), ("", ())))
+
     def test_any_value_is_judged(self):
         good = ("counts", "ab", ("", ((0, "b", 1),)), ("a", ((1, "a", -1), (0, "b", 1))))
         for value in VALUES:
@@ -294,6 +300,7 @@ class Blurs(unittest.TestCase):
             for blur in made:
                 self.check(NONE, SOME, blur)
             self.check(EVEN, SOME, ("word", value))
+            self.check(ALL, ALL, (value, "a"))
 
     def test_sums_of_sides(self):
         some = random.Random(25)
@@ -354,6 +361,7 @@ class Words(unittest.TestCase):
         many = ("counts", "", ("", ((0, "a", TWELVE),)), ("", ((0, "a", TWELVE),)))
         check_error(self, counts_words, (ALL, short, "caps", None, 7), InvalidNumber, "value", 7)
         check_error(self, counts_words, (ALL, short, "caps", None, 6), InvalidOperation)
+        check_error(self, counts_words, (ALL, Machine("a", ((0,),), (0,)), "caps", ("word", ""), 6), InvalidOperation)
         check_error(self, counts_words, (ALL, ALL, "caps", None, 0), InvalidNumber, "value", 0)
         check_error(self, counts_words, (ALL, ALL, "sums", many, 6), InvalidOperation)
         check_error(self, counts_words, (ALL, ALL, "caps", many, 6), TooMany, "limit", 100000)
