@@ -176,8 +176,10 @@ class Rows(unittest.TestCase):
             count = word.count("a") * times
             self.assertEqual(stand_after("ab", row, word, times=times),
                              tuple(count // 12 ** at % 12 for at in range(4)))
-        self.assertEqual(stand_after("ab", odometer(12, 12, 12, 12, 12, 12), "a" * 300, times=2),
-                         (0, 2, 4, 0, 0, 0))
+        row = odometer(12, 12, 12, 12, 12, 12)
+        self.assertEqual(stand_after("ab", row, "a" * 300, times=2), (0, 2, 4, 0, 0, 0))
+        self.assertEqual(stand_after("ab", row, "a", times=10 ** 11),
+                         tuple(10 ** 11 // 12 ** at % 12 for at in range(6)))
 
     def test_all_stands_in_their_order(self):
         for letters in ("a", "ab", "abc"):

@@ -48,7 +48,8 @@ def stand_after(letters, row, word, *, times=1):
     # so that the values of the last level need not be gone through one by one.
     met, entry = [()], 0
     for at, (_, first, _) in enumerate(row):
-        turns = [_word_turn(row[:at + 1], held, columns) for held in met]
+        moves = [{} for _ in letters]
+        turns = [_word_turn(row[:at + 1], held, columns, moves) for held in met]
         stand.append(_value_after(turns, entry, first, times))
         if at + 1 < len(row):
             met, entry = _ring_with(met, entry, turns, first, times)
@@ -155,14 +156,21 @@ def _explored_stands(letters, row):
                     MAX_STANDS)
 
 
-def _word_turn(levels, held, columns):
-    """What a word makes of each value of the last level, if those ahead of it hold this."""
+def _word_turn(levels, held, columns, moves):
+    """What a word makes of each value of the last level, if those ahead of it hold this.
+
+    For each letter a dict keeps where it leads the levels ahead, as words often come to the same.
+    """
+    ahead = levels[:-1]
     values, _, rules = levels[-1]
     turn = list(range(values))
     for column in columns:
         deed = rules[column].get(held, None)
-        turn = [_done(deed, value) for value in turn]
-        held = _step(levels[:-1], held, column)
+        if deed is not None:
+            turn = [_done(deed, value) for value in turn]
+        if held not in moves[column]:
+            moves[column][held] = _step(ahead, held, column)
+        held = moves[column][held]
     return turn
 
 
