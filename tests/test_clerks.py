@@ -10,7 +10,7 @@ from plain import (CLOSES, EVEN, NONE, ODD, OPENS, SOME, VALUES, Argument, all_m
                    is_machine, is_plain_letters, is_plain_number, is_plain_word, led_to, number_from, some_machines,
                    words_up_to)
 from test_rings import is_plain_blur, joined_pairs, looped_pairs, some_pairs
-from watchkinds.base.joined import chained, of_words
+from watchkinds.base.joined import chained, of_words, repeated
 from watchkinds.base.machines import Machine
 from watchkinds.counts import finding
 from watchkinds.counts.finding import (MAX_CLERK, MAX_SEARCHED, clerk_for, counts_blur, first_clerk, is_clerk_for,
@@ -132,6 +132,27 @@ class Clerks(unittest.TestCase):
         self.assertIs(is_clerk_for(*rings, "sums", (0, 15)), False)
         self.assertIs(is_clerk_for(*long, "caps", (12, 1)), True)
         self.assertIs(is_clerk_for(*long, "caps", (13, 1)), False)
+
+    def test_moduli_of_great_rings(self):
+        one = of_words("a", ("a",))
+        for modulus, rest in ((7, 1), (8, 4), (9, 3), (11, 2)):
+            whole = parted = one
+            for _ in range(modulus - 1):
+                whole = chained(whole, one)
+            for _ in range(rest - 1):
+                parted = chained(parted, one)
+            ring = repeated(whole)
+            self.assertEqual(len(ring), modulus)
+            for sort in ("sums", "clerks"):
+                for other in (chained(parted, ring), chained(ring, parted)):
+                    for most in (6, modulus - 1, modulus, 12):
+                        expected = (0, modulus) if most >= modulus else None
+                        self.assertEqual(first_clerk(ring, other, sort, most), expected)
+                        self.assertEqual(clerk_for(ring, other, sort, most), expected)
+                    self.assertIsNone(first_clerk(ring, other, "caps", 12))
+                    self.assertEqual(first_clerk(ring - one, one, "caps", 12), (2, 1))
+            self.assertEqual(first_clerk(ring | one, chained(parted, ring) - one, "sums", 12),
+                             None if rest == 1 else (0, modulus))
 
     def test_greater_clerks_tell_too(self):
         for one, other in some_pairs(20):
