@@ -219,6 +219,7 @@ class Language(unittest.TestCase):
                 else:
                     self.assertIsInstance(over, ast.Call, place)
                     self.assertIn(ast.unparse(over.func), GOES_OVER, place)
+                    self.assertIs(over.args[0], node, place)
 
     def test_sets_stand_where_they_may(self):
         for path, (_, tree) in self.trees.items():

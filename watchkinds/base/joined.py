@@ -1,7 +1,8 @@
 """Machines made of words and of other machines, and questions about machines."""
 
-from watchkinds.base.machines import least_machine, need_machines, need_same_letters
+from watchkinds.base.machines import least_machine, need_machines, need_two
 from watchkinds.base.tables import explored, knots_of, led, paired, ways, word_along
+from watchkinds.base.values import is_pair
 from watchkinds.base.words import is_over, is_word, need_letters, need_over, need_word
 from watchkinds.errors import InvalidOperation
 
@@ -27,7 +28,7 @@ def of_words(letters, words):
 
 def chained(one, other):
     """The machine of the words of the one with a word of the other one behind them."""
-    _need_two(one, other)
+    need_two(one, other)
 
     def step(key, column):
         state, others = key
@@ -86,13 +87,18 @@ def renamed(machine, letters):
 
 def common_word(one, other):
     """The first word that both have, or None."""
-    _need_two(one, other)
+    need_two(one, other)
     return _first_word_with(one, other, ((True, True),))
+
+
+def is_word_blur(one, other, value):
+    """Whether the value is the blur, for each sort, of a word of both machines."""
+    return is_pair(value) and value[0] == "word" and value[1] in one and value[1] in other
 
 
 def first_difference(one, other):
     """The first word that just one of both has, or None."""
-    _need_two(one, other)
+    need_two(one, other)
     return _first_word_with(one, other, ((True, False), (False, True)))
 
 
@@ -121,11 +127,6 @@ def is_order_free(machine):
     columns = range(len(machine.letters))
     return all([table[row[one]][other] == table[row[other]][one]
                 for row in table for one in columns for other in columns])
-
-
-def _need_two(one, other):
-    need_machines((one, other))
-    need_same_letters(one.letters, other.letters)
 
 
 def _with_ends(letters, rows, answers):

@@ -125,6 +125,12 @@ def need_same_letters(one, other):
         raise InvalidOperation("the sets of letters are not equal")
 
 
+def need_two(one, other):
+    """Raise the error of what should be two machines with the same letters, and is not."""
+    need_machines((one, other))
+    need_same_letters(one.letters, other.letters)
+
+
 def _combined(one, other, wanted):
     """The least machine of the words for which the pair of both answers is a wanted one."""
     need_machines((other,))

@@ -1,5 +1,7 @@
 """Tests of plain values: numbers, tuples of numbers, tables."""
 
+from math import lcm
+
 from watchkinds.errors import InvalidNumber
 
 
@@ -17,6 +19,14 @@ def need_number(value, least, most):
     """Raise the error of a number that is no integer within its bounds."""
     if not is_number(value, least, most):
         raise InvalidNumber(value)
+
+
+def common_multiple(number):
+    """The least number, at least 1, that all numbers from 1 to this one divide."""
+    found = 1
+    for part in range(1, number + 1):
+        found = lcm(found, part)
+    return found
 
 
 def is_pair(value):

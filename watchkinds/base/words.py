@@ -18,6 +18,11 @@ def is_word(value):
     return value == "" or (value.isascii() and value.isalpha() and value.islower())
 
 
+def is_letter(letters, value):
+    """Whether the value is a letter of a set of letters."""
+    return isinstance(value, str) and len(value) == 1 and value in letters
+
+
 def is_over(letters, word):
     """Whether all letters of a word are in a set of letters."""
     return all([letter in letters for letter in sorted(set(word))])

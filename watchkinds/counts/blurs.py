@@ -1,7 +1,7 @@
 """How counts blurs are found: two spans, one of each machine, and rings of theirs that make equal sums."""
 
 from watchkinds.counts.rings import met
-from watchkinds.counts.spans import spans_of
+from watchkinds.counts.spans import spans_of, units_of
 from watchkinds.counts.vectors import plus, product_of, reached_by, rest_by, rising, times_for
 
 
@@ -23,7 +23,8 @@ def _blur_of_spans(one, other, sort, left, right):
     turns = [(0, ring) for ring in left[1]] + [(1, ring) for ring in right[1]]
     free = [turn for turn in turns if _is_within(letters, large, turn[1])]
     # Caps do not see how often large letters come, so that for them each of these is made up alone.
-    made = [_unit(letters, letter) for letter in large] if sort == "caps" else [_change(turn) for turn in free]
+    units = [unit for letter, unit in zip(letters, units_of(letters)) if letter in large]
+    made = units if sort == "caps" else [_change(turn) for turn in free]
     pivots = reached_by(made)
     bound = [turn for turn in turns if turn not in free]
     way = _way_to_equal(letters, large, pivots, left[0], right[0], bound)
@@ -56,10 +57,6 @@ def _change(turn):
     """How a ring of a side changes the difference of both sums."""
     side, ring = turn
     return ring if side == 0 else _opposite(ring)
-
-
-def _unit(letters, letter):
-    return tuple([1 if sign == letter else 0 for sign in letters])
 
 
 def _is_within(letters, large, ring):

@@ -120,7 +120,7 @@ def _seen(machine, cap, modulus):
     many = len(machine)
     size = cap + modulus
     units = [many, size * many, size * size * many][:len(machine.letters)][::-1]
-    met = [False for _ in range(many * size * units[0])]
+    met = [False for _ in range(size * units[0])]
     met[0] = True
     queue = [0]
     while queue:

@@ -1,10 +1,9 @@
 """Rings at states, words that counts cannot tell apart, and counts blurs."""
 
-from math import lcm
-
+from watchkinds.base.joined import is_word_blur
 from watchkinds.base.machines import need_machines, need_same_letters
 from watchkinds.base.tables import led
-from watchkinds.base.values import is_integer, is_number, is_pair, need_number
+from watchkinds.base.values import common_multiple, is_integer, is_number, is_pair, need_number
 from watchkinds.base.words import counts, is_letters, is_over, is_word, need_letters, need_over, need_word
 from watchkinds.counts.spans import rings_by_counts
 from watchkinds.counts.vectors import plus
@@ -100,24 +99,16 @@ def _leads_back(machine, state, value):
     return led(machine.letters, machine.table, value, state) == state
 
 
-def _common_ring(number):
-    """The least number that all numbers from 1 to this one divide."""
-    ring = 1
-    for part in range(1, number + 1):
-        ring = lcm(ring, part)
-    return ring
-
-
 def _are_alike(sort, number, one, other):
     """Whether the numbers how often a letter comes in two words are alike."""
     if sort != "sums" and one != other and min(one, other) < number:
         return False
-    return sort == "caps" or (one - other) % _common_ring(number) == 0
+    return sort == "caps" or (one - other) % common_multiple(number) == 0
 
 
 def _is_blur(one, other, sort, value):
-    if is_pair(value) and value[0] == "word":
-        return value[1] in one and value[1] in other
+    if is_word_blur(one, other, value):
+        return True
     if not isinstance(value, tuple) or len(value) != 4 or value[0] != "counts":
         return False
     _, large, left, right = value
@@ -176,7 +167,7 @@ def _times_round(sort, number, is_free, times):
         return number
     # By the rests nothing changes; clerks see rests only of what comes often enough.
     least = number if sort == "clerks" else 0
-    return least + (times - least) % _common_ring(number)
+    return least + (times - least) % common_multiple(number)
 
 
 def _with_rings(word, rings):

@@ -45,7 +45,7 @@ def spans_of(machine):
                 around.setdefault(counted, (state, ring))
         # What is one of these words and a ring besides is there by the other word.
         bases = {counted: word for counted, word in short[met].items()
-                 if not any([plus(counted, ring, -1) in short[met] for ring in around])}
+                 if not any([plus(counted, turn, -1) in short[met] for turn in around])}
         found.append((bases, around))
     return found
 

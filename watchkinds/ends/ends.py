@@ -1,7 +1,7 @@
 """What the last and the first letters of words tell of two machines: blurs, numbers, papers."""
 
-from watchkinds.base.joined import common_word
-from watchkinds.base.machines import need_machines, need_same_letters
+from watchkinds.base.joined import common_word, is_word_blur
+from watchkinds.base.machines import need_two
 from watchkinds.base.tables import leading, led, on_rings, paired, ring_at, way_between, way_to_any, ways
 from watchkinds.base.values import are_pairs, is_number, is_pair, need_number
 from watchkinds.base.words import is_over, is_word
@@ -24,7 +24,7 @@ def first_number(one, other):
 
 def last_blur(one, other):
     """Any blur for the last letters, or None."""
-    _need_two(one, other)
+    need_two(one, other)
     word = common_word(one, other)
     if word is not None:
         return ("word", word)
@@ -42,7 +42,7 @@ def last_blur(one, other):
 
 def first_blur(one, other):
     """Any blur for the first letters, or None."""
-    _need_two(one, other)
+    need_two(one, other)
     word = common_word(one, other)
     if word is not None:
         return ("word", word)
@@ -59,8 +59,8 @@ def first_blur(one, other):
 
 def is_last_blur(one, other, value):
     """Whether the value is a blur for the last letters."""
-    _need_two(one, other)
-    if _is_common(one, other, value):
+    need_two(one, other)
+    if is_word_blur(one, other, value):
         return True
     if not _is_form(one.letters, "end", value):
         return False
@@ -70,8 +70,8 @@ def is_last_blur(one, other, value):
 
 def is_first_blur(one, other, value):
     """Whether the value is a blur for the first letters."""
-    _need_two(one, other)
-    if _is_common(one, other, value):
+    need_two(one, other)
+    if is_word_blur(one, other, value):
         return True
     if not _is_form(one.letters, "begin", value):
         return False
@@ -117,7 +117,7 @@ def first_paper(one, other):
 
 def is_last_paper(one, other, value):
     """Whether the value is a last paper."""
-    _need_two(one, other)
+    need_two(one, other)
     if is_pair(value) and value[0] == "blur":
         return is_last_blur(one, other, value[1])
     if not _is_number_paper(one, other, value):
@@ -129,7 +129,7 @@ def is_last_paper(one, other, value):
 
 def is_first_paper(one, other, value):
     """Whether the value is a first paper."""
-    _need_two(one, other)
+    need_two(one, other)
     if is_pair(value) and value[0] == "blur":
         return is_first_blur(one, other, value[1])
     if not _is_number_paper(one, other, value):
@@ -138,11 +138,6 @@ def is_first_paper(one, other, value):
     layer = _layer(rows, [0], value[1])
     live = _live_pairs(one, other, pairs)
     return value[2] == _paper_pairs(pairs, layer) and not any([live[at] for at in layer])
-
-
-def _need_two(one, other):
-    need_machines((one, other))
-    need_same_letters(one.letters, other.letters)
 
 
 def _all_pairs(one, other):
@@ -209,11 +204,6 @@ def _paper_pairs(pairs, layer):
 def _meet(layer, others):
     held = {at: True for at in layer}
     return any([at in held for at in others])
-
-
-def _is_common(one, other, value):
-    """Whether the value is a blur of a word of both machines."""
-    return is_pair(value) and value[0] == "word" and value[1] in one and value[1] in other
 
 
 def _is_form(letters, form, value):

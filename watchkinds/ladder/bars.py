@@ -2,7 +2,7 @@
 
 from watchkinds.base.tables import knots_of, led, numbered, paired, ring_at, way_between, ways, word_along
 from watchkinds.base.values import is_number
-from watchkinds.base.words import is_over, is_word
+from watchkinds.base.words import is_letter, is_over, is_word
 from watchkinds.ladder.actions import columns_of, turned_place
 
 
@@ -154,13 +154,13 @@ def _is_left(letters, table, parts):
     if len(parts) != 3 or not _is_place(table, parts[0]) or not _is_way(letters, parts[1]):
         return False
     place, ring, letter = parts
-    if ring == "" or not _is_letter(letters, letter):
+    if ring == "" or not is_letter(letters, letter):
         return False
     return led(letters, table, ring, place) == place and led(letters, table, letter, place) != place
 
 
 def _is_swap(letters, table, parts):
-    if len(parts) != 3 or not _is_place(table, parts[0]) or not all([_is_letter(letters, part) for part in parts[1:]]):
+    if len(parts) != 3 or not _is_place(table, parts[0]) or not all([is_letter(letters, part) for part in parts[1:]]):
         return False
     place, letter, other = parts
     return led(letters, table, letter + other, place) != led(letters, table, other + letter, place)
@@ -181,7 +181,7 @@ def _is_turn(letters, table, parts):
 
 
 def _is_merge(letters, table, parts):
-    if len(parts) != 3 or not all([_is_place(table, part) for part in parts[:2]]) or not _is_letter(letters, parts[2]):
+    if len(parts) != 3 or not all([_is_place(table, part) for part in parts[:2]]) or not is_letter(letters, parts[2]):
         return False
     one, other, letter = parts
     return one < other and led(letters, table, letter, one) == led(letters, table, letter, other)
@@ -196,7 +196,7 @@ def _is_ring(letters, table, parts):
 
 
 def _is_apart(letters, table, parts):
-    if len(parts) != 3 or not _is_place(table, parts[0]) or not all([_is_letter(letters, part) for part in parts[1:]]):
+    if len(parts) != 3 or not _is_place(table, parts[0]) or not all([is_letter(letters, part) for part in parts[1:]]):
         return False
     place, letter, other = parts
     if letter == other:
@@ -232,7 +232,7 @@ def is_bar_of(letters, table, sort, value):
     """Whether the value is a bar of a box for a sort."""
     if not isinstance(value, tuple) or value == () or not isinstance(value[0], str) or value[0] not in _FORMS[sort]:
         return False
-    if sort == "caps" and value[0] == "turn" and not _is_letter(letters, value[-1]):
+    if sort == "caps" and value[0] == "turn" and not is_letter(letters, value[-1]):
         return False
     judge = _JUDGES[value[0]]
     return judge(letters, table, value[1:])
@@ -240,10 +240,6 @@ def is_bar_of(letters, table, sort, value):
 
 def _is_place(table, value):
     return is_number(value, 0, len(table) - 1)
-
-
-def _is_letter(letters, value):
-    return isinstance(value, str) and len(value) == 1 and value in letters
 
 
 def _is_way(letters, value):

@@ -1,9 +1,10 @@
 """Paths of letters and of blocks of letters, which scattered pieces cannot tell apart."""
 
-from watchkinds.base.machines import need_machines, need_same_letters
+from watchkinds.base.joined import is_word_blur
+from watchkinds.base.machines import need_machines, need_two
 from watchkinds.base.tables import led
 from watchkinds.base.values import is_pair, need_number
-from watchkinds.base.words import is_over, is_word, need_letters, need_over
+from watchkinds.base.words import is_letter, is_over, is_word, need_letters, need_over
 from watchkinds.errors import InvalidOperation
 from watchkinds.pieces.sides import all_rings, rings_of, sides_from
 
@@ -14,13 +15,13 @@ _MAX_MADE = 20
 
 def is_path(one, other, value):
     """Whether the value is a good path."""
-    _need_two(one, other)
+    need_two(one, other)
     return _pairs_on(one, other, value) is not None
 
 
 def path_ends(one, other, path):
     """The pair of the states to which a good path leads."""
-    _need_two(one, other)
+    need_two(one, other)
     pairs = _pairs_on(one, other, path)
     if pairs is None:
         raise InvalidOperation("no good path of the machines")
@@ -29,12 +30,10 @@ def path_ends(one, other, path):
 
 def is_pieces_blur(one, other, value):
     """Whether the value is a blur for the pieces."""
-    _need_two(one, other)
-    if not is_pair(value):
-        return False
-    if value[0] == "word":
-        return value[1] in one and value[1] in other
-    if value[0] != "blocks":
+    need_two(one, other)
+    if is_word_blur(one, other, value):
+        return True
+    if not is_pair(value) or value[0] != "blocks":
         return False
     pairs = _pairs_on(one, other, value[1])
     return pairs is not None and pairs[-1][0] in one.ends and pairs[-1][1] in other.ends
@@ -78,11 +77,6 @@ def block_ends(machine, state, letters):
     return tuple(sorted(list(sides_from(machine, all_rings(machine), state, letters))))
 
 
-def _need_two(one, other):
-    need_machines((one, other))
-    need_same_letters(one.letters, other.letters)
-
-
 def _letters_of(word):
     return "".join(sorted(set(word)))
 
@@ -104,17 +98,13 @@ def _after_step(one, other, pair, step):
     """The pair of states to which a step leads, or None if the step is none, or not good."""
     if not isinstance(step, tuple) or step == ():
         return None
-    if step[0] == "letter" and len(step) == 2 and _is_letter(one.letters, step[1]):
+    if step[0] == "letter" and len(step) == 2 and is_letter(one.letters, step[1]):
         column = one.letters.index(step[1])
         return one.table[pair[0]][column], other.table[pair[1]][column]
     if step[0] == "block" and len(step) == 3 and _are_sides(one.letters, step[1], step[2]):
         after = _after_side(one, pair[0], step[1]), _after_side(other, pair[1], step[2])
         return None if None in after else after
     return None
-
-
-def _is_letter(letters, value):
-    return isinstance(value, str) and len(value) == 1 and value in letters
 
 
 def _are_sides(letters, side, others):

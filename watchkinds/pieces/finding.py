@@ -1,6 +1,6 @@
 """What scattered pieces tell apart: blurs of as few steps as any, closed sets of pairs, least numbers."""
 
-from watchkinds.base.machines import need_machines, need_same_letters
+from watchkinds.base.machines import need_two
 from watchkinds.base.values import are_pairs, need_number
 from watchkinds.boxes.boxes import Box
 from watchkinds.boxes.sights import alike_pair
@@ -13,7 +13,7 @@ _MAX_OF_THREE = 2
 
 def pieces_blur(one, other):
     """Any blur for the pieces, or None; its path has as few steps as any."""
-    _need_two(one, other)
+    need_two(one, other)
     steps = _steps_to_pairs(one, other)
     for pair in steps:
         if _has_ends(one, other, pair):
@@ -23,14 +23,14 @@ def pieces_blur(one, other):
 
 def pieces_clear(one, other):
     """Any closed set of pairs without a pair of two ends, or None."""
-    _need_two(one, other)
+    need_two(one, other)
     pairs = sorted(list(_steps_to_pairs(one, other)))
     return None if any([_has_ends(one, other, pair) for pair in pairs]) else tuple(pairs)
 
 
 def is_pieces_clear(one, other, value):
     """Whether the value is a closed set of pairs without a pair of two ends."""
-    _need_two(one, other)
+    need_two(one, other)
     if not are_pairs(value, len(one), len(other)) or any([_has_ends(one, other, pair) for pair in value]):
         return False
     held = {pair: True for pair in value}
@@ -58,13 +58,8 @@ def pieces_pair(one, other, most):
     return alike_pair(one, other, Box.pieces(one.letters, most))
 
 
-def _need_two(one, other):
-    need_machines((one, other))
-    need_same_letters(one.letters, other.letters)
-
-
 def _need_most(one, other, most):
-    _need_two(one, other)
+    need_two(one, other)
     need_number(most, 0, _MAX_OF_THREE if len(one.letters) == 3 else MAX_PIECES)
 
 
@@ -91,9 +86,9 @@ def _afters(one, other, sides, pair):
     """A dict from the pairs to which one step leads from a pair to such steps."""
     left, right = sides[0][pair[0]], sides[1][pair[1]]
     found = {}
-    for letter, after in zip(one.letters, zip(one.table[pair[0]], other.table[pair[1]])):
-        if after not in found:
-            found[after] = ("letter", letter)
+    for letter, after, further in zip(one.letters, one.table[pair[0]], other.table[pair[1]]):
+        if (after, further) not in found:
+            found[(after, further)] = ("letter", letter)
     for part in left:
         for after, side in left[part].items():
             for last, further in right[part].items():

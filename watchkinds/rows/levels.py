@@ -50,7 +50,7 @@ def stand_after(letters, row, word, *, times=1):
     for at, (_, first, _) in enumerate(row):
         moves = [{} for _ in letters]
         turns = [_word_turn(row[:at + 1], held, columns, moves) for held in met]
-        stand.append(_value_after(turns, entry, first, times))
+        stand.append(_value_at(turns, entry, first, times))
         if at + 1 < len(row):
             met, entry = _ring_with(met, entry, turns, first, times)
     return tuple(stand)
@@ -94,6 +94,15 @@ def is_row_paper(box, value):
     return _leads_alike(box.table, row, places)
 
 
+def value_after(deed, value):
+    """The value that a deed, or None, makes of a value."""
+    if deed is None:
+        return value
+    if isinstance(deed, tuple):
+        return deed[value]
+    return deed
+
+
 def _need_row(letters, row):
     if not is_row_of(letters, row):
         raise InvalidOperation("no row for the set of letters")
@@ -133,18 +142,9 @@ def _deeds(row):
     return [deed for _, _, rules in row for rule in rules for deed in rule.values()]
 
 
-def _done(deed, value):
-    """The value that a deed, or None, makes of a value."""
-    if deed is None:
-        return value
-    if isinstance(deed, tuple):
-        return deed[value]
-    return deed
-
-
 def _step(row, stand, column):
     """The stand to which a letter leads a stand."""
-    return tuple([_done(level[2][column].get(stand[:at], None), stand[at]) for at, level in enumerate(row)])
+    return tuple([value_after(level[2][column].get(stand[:at], None), stand[at]) for at, level in enumerate(row)])
 
 
 def _first_stand(row):
@@ -167,14 +167,14 @@ def _word_turn(levels, held, columns, moves):
     for column in columns:
         deed = rules[column].get(held, None)
         if deed is not None:
-            turn = [_done(deed, value) for value in turn]
+            turn = [value_after(deed, value) for value in turn]
         if held not in moves[column]:
             moves[column][held] = _step(ahead, held, column)
         held = moves[column][held]
     return turn
 
 
-def _value_after(turns, entry, first, times):
+def _value_at(turns, entry, first, times):
     """The value of a level to which so many turns lead its first value: behind the last one, from `entry` on."""
     value = first
     for turn in turns[:times]:

@@ -3,6 +3,7 @@
 from watchkinds.base.tables import explored
 from watchkinds.boxes.boxes import need_box
 from watchkinds.errors import InvalidOperation, TooMany
+from watchkinds.rows.levels import value_after
 
 MAX_ROWED = 5
 
@@ -38,7 +39,7 @@ def row_paper(box):
 
     def step(stand, column):
         deeds = reading.deeds(stand, column)
-        return tuple([_after(deed, value) for deed, value in zip(deeds, stand)])
+        return tuple([value_after(deed, value) for deed, value in zip(deeds, stand)])
 
     columns = list(range(len(box.letters)))
     stands = explored(columns, reading.firsts, step)[0]
@@ -93,7 +94,7 @@ class Reading:
             if self.reads(ahead, at):
                 ahead = self.tiles[ahead][value]
             if self.reads(behind, at):
-                behind = self.tiles[behind][_after(deed, value)]
+                behind = self.tiles[behind][value_after(deed, value)]
         return found
 
     def deed(self, ahead, behind, at, column):
@@ -135,14 +136,6 @@ def _need_set(box, places):
 def _is_same(value, held):
     """Whether the value is the same tuple of integers: True and False are none."""
     return value == held and not any([isinstance(part, bool) for part in value])
-
-
-def _after(deed, value):
-    if deed is None:
-        return value
-    if isinstance(deed, tuple):
-        return deed[value]
-    return deed
 
 
 def _moved(table, places, column):

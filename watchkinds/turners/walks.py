@@ -1,10 +1,9 @@
 """Rows of signs, walks there and back, stand-ins for walks, and blurs for the turners."""
 
-from math import lcm
-
-from watchkinds.base.machines import need_machines, need_same_letters
+from watchkinds.base.joined import is_word_blur
+from watchkinds.base.machines import need_machines, need_two
 from watchkinds.base.tables import knots_of, way_between
-from watchkinds.base.values import is_number, is_pair, need_number
+from watchkinds.base.values import common_multiple, is_number, need_number
 from watchkinds.errors import InvalidOperation, InvalidWord, TooMany
 
 MAX_LENGTH = 100000
@@ -36,11 +35,11 @@ def short(row):
     return "".join(kept)
 
 
-def are_alike(row, other):
+def are_alike(one, other):
     """Whether two rows have equal short rows."""
-    _need_row(row)
+    _need_row(one)
     _need_row(other)
-    return short(row) == short(other)
+    return short(one) == short(other)
 
 
 def way(machine, one, other):
@@ -102,10 +101,9 @@ def stand_in(machine, walk, number):
 
 def is_turners_blur(one, other, value):
     """Whether the value is a blur of two machines for the turners."""
-    need_machines((one, other))
-    need_same_letters(one.letters, other.letters)
-    if is_pair(value):
-        return value[0] == "word" and value[1] in one and value[1] in other
+    need_two(one, other)
+    if is_word_blur(one, other, value):
+        return True
     if not isinstance(value, tuple) or len(value) != 3 or value[0] != "walks":
         return False
     _, first, second = value
@@ -122,9 +120,7 @@ def turners_words(one, other, blur, number):
     if blur[0] == "word":
         return blur[1], blur[1]
     # By so many times each word leads each place of all these turners to itself.
-    times = 1
-    for part in range(1, number + 1):
-        times = lcm(times, part)
+    times = common_multiple(number)
     return _stand_in(one, blur[1], times), _stand_in(other, blur[2], times)
 
 
