@@ -1,11 +1,14 @@
 """What the tests share: slow and plain readings of the document, and values of wrong kinds."""
 
 import itertools
+import math
 import random
 import re
 
 from watchkinds.base.machines import Machine
 from watchkinds.boxes.boxes import Box
+from watchkinds.errors import InvalidWord, TooMany
+from watchkinds.ladder.sorts import SORTS
 
 EVEN = Machine("ab", ((1, 0), (0, 1)), (0,))
 ODD = Machine("ab", ((1, 0), (0, 1)), (1,))
@@ -48,6 +51,17 @@ VALUES = [
     ("blur", ("end", "", "a", "b", "")), ("blur", None), ("blocks", ()), ("blocks", (("letter", "a"),)),
     ("blocks", (("block", ("", "ab", "a"), ("", "ab", "")),)), (("block", ("", "ab", "a"), ("", "ab", "")),),
     (("letter", "a"), ("letter", "b")), (("letter", "ab"),), (("block", ("", "a", ""), ("", "b", "")),),
+    ((0, 1), (0, 1)), ((0, 0), (0, 2)), ((0, 1), (0, 1, 2)), ((0, 1, 2, 3), (0,)), ((0, True), (0, 1)), [(0, 1), (0, 1)],
+    (((0, 1), (0, 1)),), (((0, 1), (0, 1)), ((1, 0), (1, 0))), (((1, 0), (1, 0)), ((0, 1), (0, 1))),
+    ((((0, 1), (0, 1)),),), ((((0, 1), (0, 1)), ((1, 0), (1, 0))),), (("word", "a"),), (("word", "a"), ("often", 0)),
+    (("word", "a"), ("both", 0, 0)), (("often", 0),), (("word", "a"), ("often", 1)), (("word", "a"), ("often", False)),
+    ("recipe", (("word", "a"), ("often", 0))), ("recipe", (("word", "a"),)), ("recipe", ()), ("recipe", None),
+    ("walks", (), ()), ("walks", ((0, "a", 1),), ((0, "a", 1),)), ("counts", "", ("", ()), ("", ())),
+    ("counts", "ab", ("", ()), ("a", ((1, "a", -1),))), ("counts", "ba", ("", ()), ("", ())), ("last",), ("any",),
+    {"last": None}, {"any": ("word", "a")}, {sort: None for sort in SORTS}, {sort: ("word", "a") for sort in SORTS},
+    "word a", "end - a b -", "recipe 1\nword a", "machine a 1\nstate 0\nends -", "box a 1\nplace 0", "row a 0",
+    InvalidWord("a"), TooMany(4), (EVEN, ODD), (EVEN, ODD, EVEN),
+    (EVEN, Machine("a", ((0,),))), (LATCH, SWITCH), (LATCH, Box("a", ((0,),))), "even", "abcdefgh", "abcdefghi",
 ]
 
 
@@ -200,3 +214,137 @@ def check_least(test, machine):
         apart |= {(one, other) for one in order for other in order
                   if any(pair in apart for pair in zip(machine.table[one], machine.table[other]))}
     test.assertEqual(size, len(order) * (len(order) - 1), "two states with the same words")
+
+
+def cancelled(some, row):
+    """A row after cancelling neighbours in whatever order, until none are left that cancel."""
+    while True:
+        places = [at for at in range(len(row) - 1) if row[at] != row[at + 1] and row[at].lower() == row[at + 1].lower()]
+        if not places:
+            return row
+        at = some.choice(places)
+        row = row[:at] + row[at + 2:]
+
+
+def leads(machine, one, other):
+    """Whether some word leads from the one state to the other one."""
+    queue = [one]
+    for state in queue:
+        queue.extend(after for after in machine.table[state] if after not in queue)
+    return other in queue
+
+
+def plain_steps(machine):
+    """All steps, and the back steps of those that lie in a knot."""
+    found = set()
+    for state, row in enumerate(machine.table):
+        for letter, after in zip(machine.letters, row):
+            found.add((state, letter, after))
+            if leads(machine, after, state):
+                found.add((after, letter.upper(), state))
+    return found
+
+
+def is_plain_walk(machine, value):
+    if type(value) is not tuple or any(type(step) is not tuple or len(step) != 3 for step in value):
+        return False
+    for state, sign, after in value:
+        if type(state) is not int or type(after) is not int or type(sign) is not str:
+            return False
+        if (state, sign, after) not in plain_steps(machine):
+            return False
+    return all(one[2] == other[0] for one, other in zip(value, value[1:]))
+
+
+def random_turner(some, letters, places):
+    columns = [some.sample(range(places), places) for _ in letters]
+    return Box(letters, tuple(zip(*columns)))
+
+
+def turner_number(box):
+    """The least number of times that each word leads each place to itself, by all actions of words."""
+    found = [tuple(range(len(box.table)))]
+    for action in found:
+        for column in range(len(box.letters)):
+            after = tuple(box.table[place][column] for place in action)
+            if after not in found:
+                found.append(after)
+    number = 1
+    for action in found:
+        for place in range(len(action)):
+            size, at = 1, action[place]
+            while at != place:
+                size, at = size + 1, action[at]
+            number = math.lcm(number, size)
+    return number
+
+
+def mixed_table(some, width, rows):
+    """A table of columns of many kinds: rearrangements, resets, columns that keep all, and any."""
+    columns = []
+    for _ in range(width):
+        kind = some.choice(("turn", "turn", "reset", "keep", "any", "any"))
+        if kind == "turn":
+            columns.append(some.sample(range(rows), rows))
+        elif kind == "reset":
+            columns.append([some.randrange(rows)] * rows)
+        else:
+            columns.append(list(range(rows)) if kind == "keep" else [some.randrange(rows) for _ in range(rows)])
+    return tuple(zip(*columns))
+
+
+def parted(some, letters, states):
+    """Two machines with one table and different ends, so that they have no word in common."""
+    table = mixed_table(some, len(letters), states)
+    order = some.sample(range(states), states)
+    cut = some.randint(1, max(1, states - 1))
+    return tuple(Machine(letters, table, tuple(sorted(ends))) for ends in (order[:cut][:2], order[cut:]))
+
+
+def some_pairs(many, seed, states=(2, 3, 4), alphabets=("a", "ab", "abc")):
+    """So many pairs of machines with the same letters, the same ones each time; most have no word in common."""
+    some = random.Random(seed)
+    found = []
+    while len(found) < many:
+        letters = some.choice(alphabets)
+        one, other = parted(some, letters, some.choice(states))
+        if some.random() < 0.4:
+            table = mixed_table(some, len(letters), some.choice(states))
+            other = Machine(letters, table, (some.randrange(len(table)),))
+            if some.random() < 0.8:
+                other = other - one
+        if len(other) <= max(states):
+            found.append((one, other))
+    return found
+
+
+def plain_common_word(one, other, most):
+    """The first word that both have, among all words of at most so many letters, or None."""
+    queue = [("", 0, 0)]
+    met = set()
+    for word, left, right in queue:
+        if (left, right) in met or len(word) > most:
+            continue
+        met.add((left, right))
+        if left in one.ends and right in other.ends:
+            return word
+        queue.extend((word + letter, after, further)
+                     for letter, after, further in zip(one.letters, one.table[left], other.table[right]))
+    return None
+
+
+def size_of(value):
+    """How many tuples, lists and dicts there are in a value, and the letters of its longest word."""
+    if isinstance(value, str):
+        return 0, len(value)
+    if not isinstance(value, (tuple, list, dict)):
+        return 0, 0
+    parts = [size_of(part) for part in (list(value.items()) if isinstance(value, dict) else value)]
+    return 1 + sum(many for many, _ in parts), max([longest for _, longest in parts], default=0)
+
+
+def check_small(test, value):
+    """A returned paper keeps the bounds of [0.6]."""
+    many, longest = size_of(value)
+    test.assertLessEqual(many, 2000)
+    test.assertLessEqual(longest, 400)

@@ -150,7 +150,11 @@ class Language(unittest.TestCase):
                 place = (path, getattr(node, "lineno", 0))
                 if isinstance(node, ast.stmt):
                     self.assertIsInstance(node, STATEMENTS, place)
-                self.assertNotIsInstance(node, (ast.Try, ast.Global, ast.Await, ast.Set), place)
+                self.assertNotIsInstance(node, (ast.Global, ast.Await, ast.Set), place)
+                if isinstance(node, ast.Try):
+                    # Own errors alone are caught, by name.
+                    self.assertEqual([ast.unparse(held.type) for held in node.handlers], ["ParseError"], place)
+                    self.assertEqual(node.finalbody, [], place)
                 self.assertNotIsInstance(node, ast.Div, place)
                 if isinstance(node, ast.Call) and isinstance(node.func, ast.Attribute):
                     self.assertIn(node.func.attr, METHODS | own, place)
@@ -180,6 +184,17 @@ class Language(unittest.TestCase):
                 if isinstance(node, ast.Constant) and isinstance(node.value, str):
                     self.assertNotIn("%", node.value, path)
                     self.assertFalse(node.value.endswith(("._", ".__")), path)
+
+    def test_no_name_is_a_method_and_an_attribute(self):
+        methods, attributes = set(), set()
+        for _, tree in self.trees.values():
+            for held in ast.walk(tree):
+                if isinstance(held, ast.ClassDef):
+                    methods |= {node.name for node in held.body if isinstance(node, ast.FunctionDef)}
+                    attributes |= {node.attr for node in ast.walk(held) if isinstance(node, ast.Attribute)
+                                   and isinstance(node.ctx, ast.Store)}
+        self.assertGreater(len(attributes), 20)
+        self.assertEqual(methods & attributes, set())
 
     def test_words_that_do_not_occur(self):
         for path, (text, tree) in self.trees.items():
@@ -218,6 +233,8 @@ class Language(unittest.TestCase):
                     self.assertEqual(name, "range", place)
                 else:
                     self.assertIsInstance(over, ast.Call, place)
+                    if name == "range" and ast.unparse(over.func) == "reversed":
+                        continue
                     self.assertIn(ast.unparse(over.func), GOES_OVER, place)
                     self.assertIs(over.args[0], node, place)
 
@@ -282,7 +299,8 @@ class Language(unittest.TestCase):
             for node in ast.walk(tree):
                 if isinstance(node, ast.FunctionDef):
                     functions.setdefault(node.name, []).append(node)
-                    dunder = node.name.startswith("__") and node.name not in ("__init__", "__call__")
+                    free = ("__init__", "__call__", "__enter__", "__exit__")
+                    dunder = node.name.startswith("__") and node.name not in free
                     if dunder or any(ast.unparse(part) == "property" for part in node.decorator_list):
                         queue.append(node)
         met = []

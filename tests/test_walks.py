@@ -6,8 +6,9 @@ import random
 import re
 import unittest
 
-from plain import (CLOSES, EVEN, NONE, ODD, OPENS, SOME, VALUES, Argument, check_arguments, check_error, is_machine,
-                   is_plain_number, is_plain_word, led_to, number_from, some_machines, words_up_to)
+from plain import (CLOSES, EVEN, NONE, ODD, OPENS, SOME, VALUES, Argument, cancelled, check_arguments, check_error,
+                   is_machine, is_plain_number, is_plain_walk, is_plain_word, led_to, number_from, plain_steps,
+                   random_turner, some_machines, turner_number, words_up_to)
 from watchkinds.base.joined import of_words, repeated
 from watchkinds.base.machines import Machine
 from watchkinds.boxes.boxes import Box
@@ -23,46 +24,6 @@ WALK = ((0, "a", 1), (1, "A", 1), (1, "b", 2))
 
 def is_plain_row(value):
     return isinstance(value, str) and re.fullmatch("[a-zA-Z]*", value) is not None
-
-
-def cancelled(some, row):
-    """A row after cancelling neighbours in whatever order, until none are left that cancel."""
-    while True:
-        places = [at for at in range(len(row) - 1) if row[at] != row[at + 1] and row[at].lower() == row[at + 1].lower()]
-        if not places:
-            return row
-        at = some.choice(places)
-        row = row[:at] + row[at + 2:]
-
-
-def leads(machine, one, other):
-    """Whether some word leads from the one state to the other one."""
-    queue = [one]
-    for state in queue:
-        queue.extend(after for after in machine.table[state] if after not in queue)
-    return other in queue
-
-
-def plain_steps(machine):
-    """All steps, and the back steps of those that lie in a knot."""
-    found = set()
-    for state, row in enumerate(machine.table):
-        for letter, after in zip(machine.letters, row):
-            found.add((state, letter, after))
-            if leads(machine, after, state):
-                found.add((after, letter.upper(), state))
-    return found
-
-
-def is_plain_walk(machine, value):
-    if type(value) is not tuple or any(type(step) is not tuple or len(step) != 3 for step in value):
-        return False
-    for state, sign, after in value:
-        if type(state) is not int or type(after) is not int or type(sign) is not str:
-            return False
-        if (state, sign, after) not in plain_steps(machine):
-            return False
-    return all(one[2] == other[0] for one, other in zip(value, value[1:]))
 
 
 def is_plain_full(machine, value):
@@ -96,29 +57,6 @@ def random_walk(some, machine, start, steps):
         walk += (some.choice([step for step in known if step[0] == state]),)
         state = walk[-1][2]
     return walk
-
-
-def random_turner(some, letters, places):
-    columns = [some.sample(range(places), places) for _ in letters]
-    return Box(letters, tuple(zip(*columns)))
-
-
-def turner_number(box):
-    """The least number of times that each word leads each place to itself, by all actions of words."""
-    found = [tuple(range(len(box.table)))]
-    for action in found:
-        for column in range(len(box.letters)):
-            after = tuple(box.table[place][column] for place in action)
-            if after not in found:
-                found.append(after)
-    number = 1
-    for action in found:
-        for place in range(len(action)):
-            size, at = 1, action[place]
-            while at != place:
-                size, at = size + 1, action[at]
-            number = math.lcm(number, size)
-    return number
 
 
 def followed(box, row, place):

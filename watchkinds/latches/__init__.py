@@ -1,0 +1,1 @@
+"""What latches, in which no word goes round, tell of two machines."""
