@@ -9,6 +9,7 @@ from watchkinds.base.machines import Machine
 from watchkinds.boxes.boxes import Box
 from watchkinds.errors import InvalidWord, TooMany
 from watchkinds.ladder.sorts import SORTS
+from watchkinds.room.room import Room
 
 EVEN = Machine("ab", ((1, 0), (0, 1)), (0,))
 ODD = Machine("ab", ((1, 0), (0, 1)), (1,))
@@ -60,7 +61,7 @@ VALUES = [
     ("counts", "ab", ("", ()), ("a", ((1, "a", -1),))), ("counts", "ba", ("", ()), ("", ())), ("last",), ("any",),
     {"last": None}, {"any": ("word", "a")}, {sort: None for sort in SORTS}, {sort: ("word", "a") for sort in SORTS},
     "word a", "end - a b -", "recipe 1\nword a", "machine a 1\nstate 0\nends -", "box a 1\nplace 0", "row a 0",
-    InvalidWord("a"), TooMany(4), (EVEN, ODD), (EVEN, ODD, EVEN),
+    Room("ab"), Room("a").attempt(), (Room("ab"),), InvalidWord("a"), TooMany(4), (EVEN, ODD), (EVEN, ODD, EVEN),
     (EVEN, Machine("a", ((0,),))), (LATCH, SWITCH), (LATCH, Box("a", ((0,),))), "even", "abcdefgh", "abcdefghi",
 ]
 
@@ -348,3 +349,12 @@ def check_small(test, value):
     many, longest = size_of(value)
     test.assertLessEqual(many, 2000)
     test.assertLessEqual(longest, 400)
+
+
+def check_just_one(test, one, other, blur, paper, told):
+    """Just one is there, a blur or a clear paper, within the bounds of [0.6]; whether the paper is."""
+    test.assertEqual((blur is None, paper is not None), (told, told))
+    if told:
+        test.assertIsNone(plain_common_word(one, other, 20))
+    check_small(test, paper if told else blur)
+    return told

@@ -5,8 +5,8 @@ import time
 import unittest
 
 from plain import (CLOSES, EVEN, NONE, ODD, OPENS, SOME, VALUES, Argument, all_boxes, check_arguments, check_error,
-                   check_small, is_machine, led_to, number_from, plain_common_word, random_machine, some_boxes,
-                   some_pairs)
+                   check_just_one, check_small, is_machine, led_to, number_from, plain_common_word, random_machine,
+                   some_boxes, some_pairs)
 from test_clouds import (circle, is_plain_blur, is_plain_clear, is_plain_recipe, plain_clouds, plain_map, plain_often,
                          plain_product, plain_words_of_maps, random_recipe, tail)
 from watchkinds.base.joined import is_order_free, of_words
@@ -76,18 +76,11 @@ class Found(unittest.TestCase):
         told = blurred = 0
         for one, other in self.pairs():
             blur, paper = latches_blur(one, other), latches_clear(one, other)
-            self.assertIs(are_told_by_latches(one, other), blur is None)
-            if blur is None:
-                self.assertIs(is_latches_clear(one, other, paper), True)
-                self.assertTrue(is_plain_clear(one, other, paper))
-                self.assertIsNone(plain_common_word(one, other, 20))
-                check_small(self, paper)
+            if check_just_one(self, one, other, blur, paper, are_told_by_latches(one, other)):
+                self.assertTrue(is_latches_clear(one, other, paper) is is_plain_clear(one, other, paper) is True)
                 told += bool(one.ends and other.ends)
             else:
-                self.assertIsNone(paper)
-                self.assertIs(is_latches_blur(one, other, blur), True)
-                self.assertTrue(is_plain_blur(one, other, blur))
-                check_small(self, blur)
+                self.assertTrue(is_latches_blur(one, other, blur) is is_plain_blur(one, other, blur) is True)
                 blurred += blur[0] == "recipe"
         self.assertGreater(told, 30)
         self.assertGreater(blurred, 20)

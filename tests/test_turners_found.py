@@ -6,9 +6,9 @@ import time
 import unittest
 
 from plain import (CLOSES, EVEN, NONE, ODD, OPENS, SOME, SWITCH, VALUES, Argument, all_boxes, cancelled,
-                   check_arguments, check_error, check_small, is_machine, is_plain_number, is_plain_walk, is_plain_word,
-                   language, led_to, number_from, plain_common_word, plain_steps, random_machine, random_turner,
-                   some_machines, some_pairs, words_up_to)
+                   check_arguments, check_error, check_just_one, check_small, is_machine, is_plain_number,
+                   is_plain_walk, is_plain_word, language, led_to, number_from, plain_steps, random_machine,
+                   random_turner, some_machines, some_pairs, words_up_to)
 from watchkinds.base.joined import chained, is_order_free, of_words, repeated
 from watchkinds.base.machines import Machine
 from watchkinds.boxes.sights import places, tells_apart
@@ -142,17 +142,11 @@ class Papers(unittest.TestCase):
         told = blurred = 0
         for one, other in self.pairs():
             blur, paper = turners_blur(one, other), turners_clear(one, other)
-            self.assertIs(are_told_by_turners(one, other), blur is None)
-            if blur is None:
-                self.assertIs(is_turners_clear(one, other, paper), True)
-                self.assertTrue(is_plain_clear(one, other, paper))
-                self.assertIsNone(plain_common_word(one, other, 16))
-                check_small(self, paper)
+            if check_just_one(self, one, other, blur, paper, are_told_by_turners(one, other)):
+                self.assertTrue(is_turners_clear(one, other, paper) is is_plain_clear(one, other, paper) is True)
                 told += bool(one.ends and other.ends)
             else:
-                self.assertIsNone(paper)
                 self.assertIs(is_turners_blur(one, other, blur), True)
-                check_small(self, blur)
                 blurred += blur[0] == "walks"
                 least = tuple(tuple(sorted(plain_nulls(machine))) for machine in (one, other))
                 joint = plain_joint(one, other, *least)

@@ -11,7 +11,6 @@ from plain import (CLOSES, EVEN, NONE, ODD, OPENS, SOME, VALUES, Argument, cance
                    random_turner, some_machines, turner_number, words_up_to)
 from watchkinds.base.joined import of_words, repeated
 from watchkinds.base.machines import Machine
-from watchkinds.boxes.boxes import Box
 from watchkinds.errors import InvalidMachine, InvalidNumber, InvalidOperation, InvalidWord, TooMany
 from watchkinds.turners import walks
 from watchkinds.turners.walks import (MAX_LENGTH, are_alike, back_steps, is_full_walk, is_row, is_turners_blur, is_walk,

@@ -53,6 +53,15 @@ def are_pairs(value, many, others):
     return all([_is_pair_of(part, many, others) for part in value]) and ascends(value)
 
 
+def grouped(many, pairs):
+    """The groups of the integers below `many` that arise if those of each pair are put together, and so on."""
+    groups = list(range(many))
+    for one, other in pairs:
+        groups = [groups[other] if group == groups[one] else group for group in groups]
+    members = [tuple([at for at, group in enumerate(groups) if group == first]) for first in sorted(set(groups))]
+    return tuple(sorted(members))
+
+
 def is_table(value, width, most):
     """Whether the value is a tuple of one to `most` rows, each a tuple of `width` indices of rows."""
     if not isinstance(value, tuple) or not 1 <= len(value) <= most:

@@ -2,7 +2,7 @@
 
 from watchkinds.base.machines import need_machines, need_same_letters
 from watchkinds.base.tables import paired, ways, word_along
-from watchkinds.base.values import are_pairs, is_pair, need_number
+from watchkinds.base.values import are_pairs, grouped, is_pair, need_number
 from watchkinds.base.words import need_over, need_word
 from watchkinds.boxes.boxes import need_box
 from watchkinds.errors import InvalidMachine
@@ -94,13 +94,8 @@ def box_groups(box, machines):
     _need_some(machines)
     _need_letters(machines, box)
     seen = [_first_words(machine, box) for machine in machines]
-    groups = list(range(len(machines)))
-    for one in range(len(machines)):
-        for other in range(one):
-            if any([place in seen[other] for place in seen[one]]):
-                groups = [groups[other] if group == groups[one] else group for group in groups]
-    members = [tuple([at for at, group in enumerate(groups) if group == first]) for first in sorted(set(groups))]
-    return tuple(sorted(members))
+    return grouped(len(machines), [(one, other) for one in range(len(machines)) for other in range(one)
+                                   if any([place in seen[other] for place in seen[one]])])
 
 
 def _need(machines, box):

@@ -1,0 +1,1 @@
+"""A room in which watchers of all sorts follow the same words."""

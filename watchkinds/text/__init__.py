@@ -1,0 +1,1 @@
+"""Texts of machines, boxes, rows and blurs."""
